@@ -1,0 +1,1 @@
+"""Webs counted through by little webs."""
