@@ -3,7 +3,7 @@
 # Stands for no tie: behind all colours, as a tie makes a text less than no tie does.
 NO_TIE = "e"
 
-KINDS = ("a", "b", "c", "d", NO_TIE)
+KINDS = ("a", "b", "c", "d", "e")
 
 
 def plain_order(colours):

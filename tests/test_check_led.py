@@ -187,7 +187,9 @@ class ShowsLed(Case):
     def test_webs_of_unlike_many_places(self):
         for one, other in ((2, 3), (3, 2), (1, 12)):
             for table in ([[Fraction(1, other)] * other] * one, [[Fraction(1, one)] * other] * one, unit(range(one))):
-                self.assert_shown(Web(one, []), Web(other, []), "a", table, False)
+                for letters in ("", "a", "bA"):
+                    self.assert_shown(Web(one, []), Web(other, []), letters, table, False)
+                    self.assert_shown(way(one), full(other), letters, table, False)
 
     def test_what_is_no_fraction(self):
         third = [[(1, 3)] * 3 for _ in range(3)]

@@ -164,6 +164,15 @@ class Files(unittest.TestCase):
             ahead = {name: needed for name, needed in ahead.items() if name not in free}
 
 
+def parents_of(tree):
+    return {id(child): node for node in ast.walk(tree) for child in ast.iter_child_nodes(node)}
+
+
+def called(node):
+    """The bare name that is called here, if one is."""
+    return node.func.id if isinstance(node, ast.Call) and isinstance(node.func, ast.Name) else None
+
+
 class Statements(unittest.TestCase):
     def test_l3_module_level(self):
         for path, tree in trees():
@@ -232,6 +241,63 @@ class Expressions(unittest.TestCase):
         for path, node in nodes(ast.Call):
             if isinstance(node.func, ast.Attribute):
                 self.assertIn(node.func.attr, METHODS | own, told(path, node))
+
+    def test_l15_no_local_name_is_that_of_a_class_or_an_import(self):
+        for path, tree in trees():
+            brought = {alias.asname or alias.name for node in imported(tree) for alias in node.names}
+            brought |= {node.name for node in tree.body if isinstance(node, ast.ClassDef)}
+            for node in ast.walk(tree):
+                if isinstance(node, ast.arg):
+                    self.assertNotIn(node.arg, brought, told(path, node))
+                elif isinstance(node, ast.Name) and isinstance(node.ctx, ast.Store):
+                    self.assertNotIn(node.id, brought, told(path, node))
+
+    def test_l8_type(self):
+        for path, tree in trees():
+            above = parents_of(tree)
+            for node in ast.walk(tree):
+                if called(node) == "type":
+                    self.assertIsInstance(above[id(node)], ast.Compare, told(path, node))
+
+    def test_l24_sets(self):
+        for path, tree in trees():
+            above = parents_of(tree)
+            for node in ast.walk(tree):
+                if called(node) in ("set", "frozenset") or isinstance(node, (ast.Set, ast.SetComp)):
+                    where = above[id(node)]
+                    stands = called(where) in ("sorted", "len") or isinstance(where, (ast.Compare, ast.Assign))
+                    self.assertTrue(stands, told(path, node))
+
+    def test_l22_keywords_of_builtins(self):
+        let = {
+            "sorted": {"key", "reverse"}, "min": {"key", "default"}, "max": {"key", "default"}, "sum": {"start"},
+            "enumerate": {"start"}, "zip": {"strict"},
+        }
+        for path, node in nodes(ast.Call):
+            if called(node) in BUILTINS:
+                self.assertLessEqual({word.arg for word in node.keywords}, let.get(called(node), set()), told(path, node))
+
+    def test_l7_l23_what_is_iterated_stands_where_it_is(self):
+        iterating = ("list", "tuple", "dict", "sorted", "sum", "any", "all", "enumerate", "zip", "min", "max")
+        for path, tree in trees():
+            above = parents_of(tree)
+            for node in ast.walk(tree):
+                if called(node) in ("zip", "enumerate", "reversed", "range"):
+                    where = above[id(node)]
+                    stands = isinstance(where, (ast.For, ast.comprehension)) or called(where) in iterating
+                    kept = called(node) == "range" and isinstance(where, (ast.Assign, ast.Compare))
+                    self.assertTrue(stands or kept, told(path, node))
+
+    def test_l7_stars_in_calls(self):
+        for path, node in nodes(ast.Call):
+            if any(isinstance(passed, ast.Starred) for passed in node.args) and called(node) in BUILTINS:
+                self.assertIn(called(node), ("max", "min", "zip"), told(path, node))
+
+    def test_l27_exponents(self):
+        for path, node in nodes(ast.BinOp):
+            if isinstance(node.op, ast.Pow):
+                self.assertIsInstance(node.right, ast.Constant, told(path, node))
+                self.assertLessEqual(node.right.value, 64, told(path, node))
 
     def test_l17_words(self):
         for path, tree in trees():

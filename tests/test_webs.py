@@ -7,16 +7,16 @@ import re
 from littlewebs.errors import BadNumber, BadText, BadWeb, Misfit, NoPlace, TooMany, Twice, WebError
 from littlewebs.webs import Web
 from tests.helpers import COLOURS, Case, full, lines, mixed_up, ring, some_web, some_webs, way
-from tests.values import ANY, INTEGERS, OTHERS, ROWS, TRUTHS
+from tests.values import ANY, INTEGERS, OTHERS, ROWS, TRUTHS, Alike
 
 GREAT = 10 ** 399
 
 NO_COLOURS = TRUTHS + INTEGERS + ROWS + tuple(value for value in OTHERS if value != "a") + (
-    "A", "B", "C", "D", "e", "aa", "ab", "abcd", " a", "a ", "\u0430", b"a", ("a",), ["a"],
+    "A", "B", "C", "D", "e", "aa", "ab", "abcd", " a", "a ", "\u0430", b"a", ("a",), ["a"], Alike(),
 )
 
 # What is no place of any web; 0 to 23 may be.
-NO_PLACES = TRUTHS + OTHERS + ROWS + (-1, -2, -24, 24, 25, GREAT, -GREAT, 0.0, "0", (0,), [0])
+NO_PLACES = TRUTHS + OTHERS + ROWS + (-1, -2, -24, 24, 25, GREAT, -GREAT, 0.0, "0", (0,), [0], Alike())
 
 WEBS = some_webs(4, 60, 24) + some_webs(5, 60, 7) + [Web(1, []), Web(24, []), full(24), full(7, "d"), ring(24), way(24)]
 

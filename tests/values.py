@@ -3,6 +3,13 @@
 from littlewebs.errors import WebError
 from littlewebs.papers import Denial, Paper
 
+class Alike:
+    """What says that it equals everything."""
+
+    def __eq__(self, other):
+        return True
+
+
 TRUTHS = (True, False)
 
 INTEGERS = (0, 1, -1, 7, 10 ** 399, -10 ** 399)
