@@ -22,6 +22,11 @@ def column_of(web, word):
     return word_ahead(web, word, [1] * web.places)
 
 
+def met(column, other):
+    """Two columns multiplied place by place and added up."""
+    return sum([worth * beside for worth, beside in zip(column, other)])
+
+
 def unit_columns(places):
     """The columns of the table of the word without letters: 1 on the diagonal, 0 elsewhere."""
     return [[int(place == at) for place in range(places)] for at in range(places)]

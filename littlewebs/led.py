@@ -1,5 +1,6 @@
 """Sums of all words: whether a table of fractions leads one web to another."""
 
+from littlewebs.columns import met
 from littlewebs.fractions import lowest
 from littlewebs.kept import kept_words
 from littlewebs.needs import need_few_places
@@ -47,11 +48,6 @@ def alike_sums(one, other, letters):
 
 def _table_told(ones, others):
     """The table that makes the columns of the one web of those of the other one, and 0 of what is square to these."""
-    products = [[_product(column, beside) for beside in others] for column in others]
+    products = [[met(column, beside) for beside in others] for column in others]
     rows, bottom = solved(products, others)
-    return [[lowest(_product(own, row), bottom) for row in zip(*rows)] for own in zip(*ones)]
-
-
-def _product(column, beside):
-    """Two columns multiplied place by place and added up."""
-    return sum([worth * other for worth, other in zip(column, beside)])
+    return [[lowest(met(own, row), bottom) for row in zip(*rows)] for own in zip(*ones)]

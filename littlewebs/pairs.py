@@ -1,7 +1,7 @@
-"""What is raised for two webs and letters that cannot be compared."""
+"""What is raised for two webs and letters, or a colour, that cannot be compared."""
 
 from littlewebs.errors import BadWord
-from littlewebs.needs import need_few_places
+from littlewebs.needs import need_colour, need_few_places
 from littlewebs.web_needs import need_web
 from littlewebs.words import are_letters
 
@@ -18,3 +18,10 @@ def need_pair(one, other, letters, most):
     need_web(other, "other")
     need_letters(letters)
     need_few_places(max(one.places, other.places), most)
+
+
+def need_coloured_pair(one, other, colour):
+    """Raise if one of both is no web, or if the colour is none."""
+    need_web(one, "one")
+    need_web(other, "other")
+    need_colour(colour, "colour")

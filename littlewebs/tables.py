@@ -2,7 +2,7 @@
 
 from math import lcm
 
-from littlewebs.columns import put_ahead
+from littlewebs.columns import met, put_ahead
 from littlewebs.fractions import is_fraction
 
 
@@ -30,6 +30,19 @@ def leads(one, other, letters, table):
         == [put_ahead(other, letter, row) for row in rows]
         for letter in letters
     ])
+
+
+def is_turn_of_fractions(table):
+    """Whether the table of fractions is a turn."""
+    if any([len(row) != len(table) for row in table]):
+        return False
+    ahead = []
+    for row in table:
+        rows, unit = _whole([row])
+        if met(rows[0], rows[0]) != unit * unit or any([met(rows[0], other) != 0 for other in ahead]):
+            return False
+        ahead.append(rows[0])
+    return True
 
 
 def _whole(table):
