@@ -21,7 +21,7 @@ class Web:
         self._near = _neighbours(places, self.ties)
 
     def __eq__(self, other):
-        return isinstance(other, Web) and self.places == other.places and self.ties == other.ties
+        return type(self) is type(other) and self.places == other.places and self.ties == other.ties
 
     def __str__(self):
         return " ".join([str(self.places), ":"] + [f"{one}{colour}{other}" for one, other, colour in self.ties])
