@@ -1,18 +1,25 @@
 """Little webs counted in webs: maps, one-to-one maps, selfmaps and pieces."""
 
 from littlewebs.errors import TooMany
-from littlewebs.needs import COLOURS
+from littlewebs.joined import colours_between, joined_order, tied_places
+from littlewebs.ways import (
+    alike_behind, free_ways, least_first, near_lots, rows_behind, unlike_ways, whole_lot,
+)
 from littlewebs.web_needs import need_little, need_web
 
 MOST_WAYS = 1000000
+FEW_PLACES = 11
 
 
 def maps(little, web):
     """How many maps of the little web into the web there are."""
     _need_few_ways(little, web)
+    between, tied, near = colours_between(little), tied_places(little), near_lots(web, False)
     ways = 1
     for part in little.parts:
-        ways *= _ways(_ties_ahead(little, _joined_order(little, part)), _near(web), [], False)
+        # Begun at an end, few lots are open at a time; so more choices leave the same lots.
+        order = joined_order(tied, min(part, key=lambda place: len(tied[place])), [])
+        ways *= free_ways((whole_lot(web),) * len(order), rows_behind(between, order, near, False), {})
     return ways
 
 
@@ -38,7 +45,7 @@ def _need_few_ways(little, web):
     """Raise if one of both is no such web, or if there may be too many maps."""
     need_little(little, "little")
     need_web(web, "web")
-    ties = max([sum([web.degree(place, colour) for colour in COLOURS]) for place in range(web.places)])
+    ties = max([len(places) for places in tied_places(web)])
     ways = 1
     for part in little.parts:
         ways *= web.places
@@ -50,41 +57,26 @@ def _need_few_ways(little, web):
 
 def _one_to_one_ways(little, web):
     """How many one-to-one maps there are, of all parts together, as parts may not meet."""
-    order = [place for part in little.parts for place in _joined_order(little, part)]
-    return _ways(_ties_ahead(little, order), _near(web), [], True)
+    order, between = _ends_last(little), colours_between(little)
+    rows = rows_behind(between, order, near_lots(web, True), True)
+    lots = (whole_lot(web),) * len(order)
+    # In a web of few places what is left is soon the same as before, and known: there is nothing to spare then.
+    if web.places <= FEW_PLACES or not rows[-1]:
+        return unlike_ways(lots, rows, {})
+    # Of the first place and those to which selfmaps lead it, each one has the least image equally often.
+    alike = alike_behind(between, order, little)
+    return (len(alike) + 1) * unlike_ways(lots, rows[:-1] + [least_first(rows[-1], alike)], {})
 
 
-def _joined_order(web, part):
-    """The places of the part, each behind the first one tied to one ahead of it."""
-    order = [part[0]]
-    for at in range(len(part)):
-        near = [place for colour in COLOURS for place in web.neighbours(order[at], colour)]
-        order = order + [place for place in near if place not in order]
-    return order
+def _ends_last(little):
+    """The places in the order of their parts, greater parts first, and of each part those with one tie last.
 
-
-def _ties_ahead(web, order):
-    """For each place of the order its ties to places ahead: where in the order these stand, and the colours."""
-    ahead = [[(at, web.tied(place, order[at])) for at in range(number)] for number, place in enumerate(order)]
-    return [[(at, colour) for at, colour in ties if colour is not None] for ties in ahead]
-
-
-def _near(web):
-    """For each colour the neighbours of each place, and for no tie, None, all places for each of them."""
-    numbers = list(range(web.places))
-    near = {colour: [web.neighbours(place, colour) for place in numbers] for colour in COLOURS}
-    near[None] = numbers
-    return near
-
-
-def _ways(ties_ahead, near, images, unlike):
-    """In how many ways the places behind those whose images are told can be led, to unlike places if so asked."""
-    lots = [near[colour][images[at]] for at, colour in ties_ahead[len(images)]] or [near[None]]
-    found = lots[0]
-    for lot in lots[1:]:
-        found = [image for image in found if image in lot]
-    if unlike:
-        found = [image for image in found if image not in images]
-    if len(images) + 1 == len(ties_ahead):
-        return len(found)
-    return sum([_ways(ties_ahead, near, images + [image], unlike) for image in found])
+    What is not tied to one another at the end of the order is counted without trying its images.
+    """
+    tied = tied_places(little)
+    found = []
+    for part in sorted(little.parts, key=len, reverse=True):
+        order = joined_order(tied, max(part, key=lambda place: len(tied[place])), [])
+        found.extend([place for place in order if len(tied[place]) > 1])
+        found.extend([place for place in order if len(tied[place]) <= 1])
+    return found

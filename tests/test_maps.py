@@ -2,6 +2,7 @@
 
 import itertools
 import random
+import time
 
 from littlewebs.errors import BadLittle, BadWeb, TooMany
 from littlewebs.maps import maps, one_to_one, pieces, selfmaps
@@ -220,6 +221,136 @@ class TooManyWays(Case):
         little = Web.read("7 : 1a2 3a4 5a6")
         self.assertEqual([count(little, web) for count in COUNTS], [331776, 190080, 3960])
         self.assert_not_let(Web.read("7 : 3a4 5a6"), web)
+
+
+def tied_order(little):
+    """The places, each behind one that is tied to it as far as there is one: so plain trial ends soon."""
+    order = []
+    for place in range(little.places):
+        if place not in order:
+            order.append(place)
+            for ahead in order:
+                near = [other for colour in COLOURS for other in little.neighbours(ahead, colour)]
+                order.extend(other for other in sorted(set(near)) if other not in order)
+    return order
+
+
+def tried(little, web, unlike):
+    """The maps, or the one-to-one maps, by leading one place behind the other."""
+    order = tied_order(little)
+    near = {colour: [set(web.neighbours(place, colour)) for place in range(web.places)] for colour in COLOURS}
+    ties = [[(at, little.tied(order[at], place)) for at in range(number) if little.tied(order[at], place)] for number, place in enumerate(order)]
+
+    def further(images):
+        found = set(range(web.places)).intersection(*[near[colour][images[at]] for at, colour in ties[len(images)]])
+        if unlike:
+            found -= set(images)
+        return len(found) if len(images) + 1 == len(order) else sum(further(images + [image]) for image in found)
+    return further([])
+
+
+GREAT = full(24)
+
+# Near the bound: the little web, the web, and the maps, one-to-one maps and pieces that are known.
+NEAR_THE_BOUND = [
+    # A star's ends go anywhere around its middle; a way of six ties likewise; a round is coloured by eight colours.
+    (star(7), full(8), 8 * 7 ** 6, 40320, 56),
+    (way(7), full(8), 8 * 7 ** 6, 40320, 20160),
+    (Web.read("7 : 0a1 0a2 0a3 1a4 2a5 3a6"), full(8), 8 * 7 ** 6, 40320, 6720),
+    (ring(7), full(8), 7 ** 7 - 7, 40320, 2880),
+    (full(7), full(8), 40320, 40320, 8),
+    (Web.read("7 : 0a1 0a2 1a2 3a4 3a5 4a5"), full(4), 4 * 24 ** 2, 0, 0),
+    # No ties: images of all kinds, and unlike ones.
+    (Web(6, []), Web(10, []), 10 ** 6, 151200, 210),
+    (Web(6, []), full(10), 10 ** 6, 151200, 210),
+    (Web(7, []), Web(7, []), 7 ** 7, 5040, 1),
+    (Web(4, []), GREAT, 24 ** 4, 24 * 23 * 22 * 21, 10626),
+    (Web.read("4 : 0a1"), GREAT, 24 * 23 * 24 * 24, 24 * 23 * 22 * 21, 63756),
+    # In a web of all ties each little web has all places but those that are tied to it.
+    (way(4), GREAT, 24 * 23 ** 3, 24 * 23 * 22 * 21, 127512),
+    (star(4), GREAT, 24 * 23 ** 3, 24 * 23 * 22 * 21, 42504),
+    (full(4), GREAT, 24 * 23 * 22 * 21, 24 * 23 * 22 * 21, 10626),
+    (ring(4), GREAT, 23 ** 4 + 23, 24 * 23 * 22 * 21, 31878),
+    # Three ties, each of twenty times five; three of twelve ties apart, and a place beside them.
+    (Web.read("6 : 0a1 2a3 4a5"), lines(20, (1, 2, 10)), 10 ** 6, 536640, 11180),
+    (Web.read("7 : 1a2 3a4 5a6"), Web(24, [(2 * at, 2 * at + 1, "a") for at in range(12)]), 24 ** 4, 24 * 22 * 20 * 18, 3960),
+    # Each place has as many ties as any other: so a tree has as many maps as places times ties.
+    (way(7), lines(21, (1, 2, 3)), 21 * 6 ** 6, 161490, 80745),
+    (star(7), lines(21, (1, 2, 3)), 21 * 6 ** 6, 21 * 720, 21),
+    (way(6), lines(24, (1, 2, 3, 4)), 24 * 8 ** 5, 282480, 141240),
+    (way(5), lines(24, range(1, 8)), 24 * 14 ** 4, 630000, 315000),
+]
+
+# Likewise, held against plain trial.
+NEAR_THE_BOUND_TRIED = [
+    (ring(7), lines(21, (1, 2, 3))), (ring(6), lines(24, (1, 2, 3, 4))), (ring(5), lines(24, range(1, 8))),
+    (Web.read("7 : 0a1 1a2 2a3 2a5 3a4 5a6"), lines(21, (1, 2, 3))), (Web.read("6 : 0a1 0a2 1a2 3a4 3a5"), lines(14, (1, 2, 7))),
+    (Web.read("7 : 0a3 0a4 0a5 0a6 1a3 1a4 1a5 2a3 2a4 2a5"), lines(21, (1, 2, 3))),
+    (Web.read("5 : 0a1 0b2 1a3 2b4"), Web(24, [(one, other, "ab"[(one * other) % 3 == 1]) for other in range(24) for one in range(max(0, other - 7), other)])),
+]
+
+
+class NearTheBound(Case):
+    def test_known_numbers(self):
+        chance = random.Random(36)
+        for little, web, *told in NEAR_THE_BOUND:
+            with self.subTest(little=str(little), web=str(web)):
+                self.assertEqual([count(little, web) for count in COUNTS], told)
+                self.assertEqual([count(mixed_up(chance, little), mixed_up(chance, web)) for count in COUNTS], told)
+        self.assertEqual([selfmaps(Web(7, [])), selfmaps(star(7)), selfmaps(full(7)), selfmaps(ring(7))], [5040, 720, 5040, 14])
+
+    def test_against_plain_trial(self):
+        for little, web in NEAR_THE_BOUND_TRIED:
+            with self.subTest(little=str(little), web=str(web)):
+                self.assertEqual(maps(little, web), tried(little, web, False))
+                unlike = tried(little, web, True)
+                self.assertEqual([one_to_one(little, web), pieces(little, web)], [unlike, unlike // selfmaps(little)])
+
+    def test_any_webs_near_the_bound(self):
+        chance = random.Random(37)
+        many = 0
+        for _ in range(60):
+            little = some_web(chance, chance.randint(4, 7), "a", chance.choice((0.2, 0.4, 0.6)))
+            web = some_web(chance, chance.randint(5, 14), "a", chance.choice((0.2, 0.4, 0.7)))
+            try:
+                found = maps(little, web)
+            except TooMany:
+                continue
+            many += 1
+            with self.subTest(little=str(little), web=str(web)):
+                if little.is_joined():
+                    self.assertEqual(found, tried(little, web, False))
+                self.assertEqual(one_to_one(little, web), tried(little, web, True))
+        self.assertGreater(many, 20)
+
+    def test_any_little_webs_in_webs_of_many_places(self):
+        chance = random.Random(38)
+        littles = [little for little in LITTLE if little.places > 1] + some_webs(39, 40, 5, "ab") + [ring(5), way(5), star(5), way(6), ring(6)]
+        # Of several parts, some of which could be led into others, but not the other way about.
+        littles += [one.beside(other) for one in (way(3), ring(3), way(2), way(2, "b")) for other in (way(3), ring(3), way(4), way(2), Web(2, []))]
+        for little in littles:
+            web = some_web(chance, chance.randint(12, 15), chance.choice(("a", "a", "ab")), 0.25)
+            try:
+                told = tried(little, web, True)
+                found = one_to_one(little, web)
+            except TooMany:
+                continue
+            with self.subTest(little=str(little), web=str(web)):
+                self.assertEqual([found, pieces(little, web)], [told, told // selfmaps(little)])
+                self.assertEqual(one_to_one(mixed_up(chance, little), mixed_up(chance, web)), told)
+
+    def test_in_a_short_time(self):
+        # One after the other, by trying nearly all images, these took half a minute.
+        calls = [(count, little, web) for little, web, *_ in NEAR_THE_BOUND[:13] for count in COUNTS] * 15
+        calls += [(count, little, web) for little, web, *_ in NEAR_THE_BOUND[13:] for count in COUNTS]
+        calls += [(count, little, web) for little, web in NEAR_THE_BOUND_TRIED for count in COUNTS]
+        start = time.perf_counter()
+        for count, little, web in calls:
+            count(little, web)
+        for _ in range(200):
+            selfmaps(Web(7, []))
+            one_to_one(Web(7, []), Web(7, []))
+        self.assertLess(time.perf_counter() - start, 8)
 
 
 def counted_way(web):
