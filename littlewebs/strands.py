@@ -4,6 +4,7 @@ Lots are told by integers here. A map leads some parts of the little web, perhap
 their places.
 """
 
+from littlewebs.joined import tied_places
 from littlewebs.masks import lot_of, many_in
 
 
@@ -29,6 +30,17 @@ def _hung_together(lots, ties):
     return lots
 
 
+def _covering(little, base, images):
+    """The places whose ties are led to all ties at their images: any other one is some strand by itself."""
+    led = {place: [] for place in images}
+    for one, other, _ in little.ties:
+        if one in images:
+            led[one].append(images[other])
+            led[other].append(images[one])
+    near = tied_places(base)
+    return [place for place, image in images.items() if len(set(led[place])) == len(near[image])]
+
+
 def led_to_first(images):
     """The lot of the places that are led to place 0."""
     return lot_of([place for place, image in images.items() if image == 0])
@@ -48,7 +60,11 @@ def lies_oddly_with(little, base, images, lot):
 
 def odd_lot(little, base, images):
     """A lot that lies oddly with the map; None if no one does."""
-    lots = [lot_of([place]) for place in images]
+    covering = _covering(little, base, images)
+    # Such a lot has a place led to each one of the base.
+    if len(set([images[place] for place in covering])) < base.places:
+        return None
+    lots = [lot_of([place]) for place in covering]
     for strand in strands(little, base, images):
         odd = [lot for lot in lots if is_odd(lot, strand)]
         # What two lots have in one of them alone is even where both are odd: so these make up all even ones.

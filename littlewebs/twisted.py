@@ -104,8 +104,7 @@ def _web_over(base, sets):
 
 def _maps_onto(little, part, base):
     """All maps of a part of the little web that reach all places of the base; none if it has too few ties."""
-    # A place with fewer ties than that of the base to which it is led is some strand by itself, so in no lot that lies
-    # oddly. But such a lot has a place led to each one of the base, with ties enough.
+    # A lot that lies oddly has a place led to each one of the base, with ties led to all ties there.
     ties = sorted([len(tied_places(little)[place]) for place in part], reverse=True)
     wanted = sorted([len(near) for near in tied_places(base)], reverse=True)
     if len(ties) < len(wanted) or any([many < needed for many, needed in zip(ties, wanted)]):
