@@ -97,7 +97,7 @@ def _near(web, colour):
 
 def _may_be_switched(near, lots):
     """Whether a web with these neighbours may be switched at the lots."""
-    outside = _outside(near, lots)
+    outside = _in_no_lot(near, lots)
     for lot in lots:
         told = lot_of(lot)
         if any([2 * many_in(near[place] & told) not in (0, len(lot), 2 * len(lot)) for place in outside]):
@@ -109,12 +109,12 @@ def _may_be_switched(near, lots):
 
 def _halves(near, lots):
     """All pairs of a place in none of the lots and a lot to half of which it is tied."""
-    outside = _outside(near, lots)
+    outside = _in_no_lot(near, lots)
     told = [(lot, lot_of(lot)) for lot in lots]
     return [(place, lot) for lot, own in told for place in outside if 2 * many_in(near[place] & own) == len(lot)]
 
 
-def _outside(near, lots):
+def _in_no_lot(near, lots):
     """The places in none of the lots."""
     told = [place for lot in lots for place in lot]
     return [place for place in range(len(near)) if place not in told]

@@ -54,6 +54,15 @@ BARRED_WORDS = set(
     " NamedTuple TypedDict TYPE_CHECKING abstractmethod".split()
 )
 
+DOUBLE_UNDERSCORES = DUNDERS | set("__all__ __class__ __future__ __name__ __slots__ __version__".split())
+
+PLAIN_NAME = re.compile(r"_?[A-Za-z][A-Za-z0-9_]*|_")
+
+# What L12 keeps for other uses: names, also with digits and underscores behind them; beginnings of names; and words.
+KEPT_NAME = re.compile(r"_(cold|tuplegetter|outside|record|written_out|member_names)[0-9_]*")
+KEPT_BEGINNING = re.compile(r"_(pe_|dcw_|enum_|cm_|twin_re_|lay_|law_|stub_|sre|WallAttr)")
+KEPT_WORD = re.compile(r"\b(_wall|_WallAttr)\b")
+
 
 def files():
     return sorted(path for path in PACKAGE.rglob("*") if path.is_file() and "__pycache__" not in path.parts)
@@ -87,9 +96,14 @@ def bound_at_top(tree):
     return names
 
 
+def in_classes(tree):
+    """The ids of all that stands straight in a class: its methods, for one."""
+    return {id(item) for node in ast.walk(tree) if isinstance(node, ast.ClassDef) for item in node.body}
+
+
 def names_made(tree):
     """All names that the file gives to something, but for attributes and methods."""
-    methods = {id(item) for node in ast.walk(tree) if isinstance(node, ast.ClassDef) for item in node.body}
+    methods = in_classes(tree)
     for node in ast.walk(tree):
         if isinstance(node, (ast.FunctionDef, ast.ClassDef)) and id(node) not in methods:
             yield node.name
@@ -101,6 +115,46 @@ def names_made(tree):
             yield node.asname or node.name
         elif isinstance(node, ast.ExceptHandler) and node.name:
             yield node.name
+
+
+def names_told(tree):
+    """All names in the file, of whatever and wherever they stand: triples of one, its row, whether of an attribute.
+
+    All strings that the tree keeps for a node are names, but for those of constants; so no use of names is forgotten.
+    """
+    methods = in_classes(tree)
+    for node in ast.walk(tree):
+        if isinstance(node, ast.Constant):
+            continue
+        method = isinstance(node, ast.FunctionDef) and id(node) in methods
+        attribute = method or isinstance(node, (ast.Attribute, ast.MatchClass))
+        for _, value in ast.iter_fields(node):
+            for word in value if isinstance(value, list) else [value]:
+                if isinstance(word, str):
+                    yield from [(name, node.lineno, attribute) for name in word.split(".")]
+    yield from [(node.value, node.lineno, True) for node in attributes_in_strings(tree)]
+
+
+def attributes_in_strings(tree):
+    """The strings that tell names of attributes: those of slots, and of getattr and its like."""
+    telling = []
+    for node in ast.walk(tree):
+        if isinstance(node, ast.Assign) and ast.unparse(node.targets[0]) == "__slots__":
+            telling.append(node.value)
+        elif called(node) in ("getattr", "hasattr", "setattr"):
+            telling.extend(node.args[1:2])
+    inner = [node for whole in telling for node in ast.walk(whole) if isinstance(node, ast.Constant)]
+    return [node for node in inner if isinstance(node.value, str)]
+
+
+def kept_names(tree):
+    """The names in the file that L12 keeps for other uses, each with its row."""
+    found = []
+    for name, row, attribute in names_told(tree):
+        walled = name.startswith("_wall") and not attribute
+        if walled or KEPT_NAME.fullmatch(name) or KEPT_BEGINNING.match(name):
+            found.append((name, row))
+    return found
 
 
 def strings(tree):
@@ -171,6 +225,79 @@ def parents_of(tree):
 def called(node):
     """The bare name that is called here, if one is."""
     return node.func.id if isinstance(node, ast.Call) and isinstance(node.func, ast.Name) else None
+
+
+# Each text has the name {} once, each in another use.
+USES = (
+    "def {}(): pass", "def low({}): pass", "def low({}=1): pass", "def low(*{}): pass", "def low(*, {}): pass",
+    "def low(**{}): pass", "class {}: pass", "class Low({}): pass", "class Low:\n    {} = 1", "{} = 1", "{}: int = 1",
+    "{} += 1", "low, (*{}, high) = rows", "for {} in rows: pass", "low = [1 for _, {} in rows]", "low = lambda {}: 1",
+    "if ({} := 1): pass", "with low as {}: pass", "try: pass\nexcept ValueError as {}: pass", "del {}",
+    "def low():\n    def high():\n        nonlocal {}", "def low():\n    global {}", "def low():\n    def {}(): pass",
+    "low = {}(1)", "low({}=1)", "low: {} = 1", "low = f'{{{}}}'", "from littlewebs.{} import low",
+    "from littlewebs.low import {}", "from littlewebs.low import {} as low", "from littlewebs.low import low as {}",
+    "match low:\n    case [{}, *_]: pass", "match low:\n    case [1, *{}]: pass", "match low:\n    case 1 as {}: pass",
+)
+
+# Here it is an attribute or a method.
+USES_OF_ATTRIBUTES = (
+    "self.{} = 1", "self.low.{} += 1", "low = box.{}", "box.{}()", "low = f'{{box.{}}}'",
+    "class Low:\n    def {}(self): pass", "class Low:\n    __slots__ = ('low', '{}')",
+    "getattr(box, '{}', 0)", "hasattr(box, '{}')", "setattr(box, '{}', 1)", "match low:\n    case Low({}=1): pass",
+)
+
+
+class Names(unittest.TestCase):
+    def check_uses(self, uses, name, wanted):
+        for use in uses:
+            found = [told for told, _ in kept_names(ast.parse(use.format(name)))]
+            self.assertEqual(found, wanted, use.format(name))
+
+    def test_l12_names_kept_for_other_uses(self):
+        for path, tree in trees():
+            self.assertEqual(kept_names(tree), [], path.name)
+            self.assertEqual(kept_names(ast.parse(f"import {module_of(path)}")), [], path.name)
+
+    def test_l12_kept_names_are_found_in_all_uses(self):
+        for name in "_cold _tuplegetter _outside _record _written_out _member_names".split():
+            for end in ("", "1", "_", "_2", "__", "07_"):
+                self.check_uses(USES + USES_OF_ATTRIBUTES, name + end, [name + end])
+
+    def test_l12_kept_beginnings_are_found_in_all_uses(self):
+        for name in "_pe_low _dcw_ _enum_2 _cm_low _twin_re_x _lay_ _law_1 _stub_low _sre _sre_low _WallAttrs".split():
+            self.check_uses(USES + USES_OF_ATTRIBUTES, name, [name])
+
+    def test_l12_only_attributes_and_methods_may_begin_with_wall(self):
+        self.check_uses(USES, "_walls", ["_walls"])
+        self.check_uses(USES_OF_ATTRIBUTES, "_walls", [])
+
+    def test_l12_other_names_are_let(self):
+        near = "outside outside_ cold record1 _outsider _outsides _outside_in _outside1a _recorded _colder _written"
+        near += " _written_outs _member_name _pe _law _lays _cmd _enums _stubs _twin_re sre_ _my_sre _wal wall_ Outside"
+        for name in near.split():
+            self.check_uses(USES + USES_OF_ATTRIBUTES, name, [])
+        self.check_uses(["low = '{}'", "low = 1  # {}", "def low():\n    '{}'"], "_outside", [])
+
+    def test_l12_words(self):
+        for path in files():
+            self.assertIsNone(KEPT_WORD.search(path.read_text(encoding="ascii")), path.name)
+        for text in ("# no _wall here", "low = '_WallAttr'", "self._wall = 1", "'low _wall. High'"):
+            self.assertIsNotNone(KEPT_WORD.search(text), text)
+        for text in ("self._walls = 1", "a_wall = 1", "wall = 1", "self._wall_low = 1"):
+            self.assertIsNone(KEPT_WORD.search(text), text)
+
+    def test_l12_forms(self):
+        for path, tree in trees():
+            for name, row, _ in names_told(tree):
+                self.assertTrue(name in DOUBLE_UNDERSCORES or PLAIN_NAME.fullmatch(name), f"{path.name}:{row}: {name}")
+        for path, node in nodes(ast.ClassDef):
+            self.assertNotEqual(node.name[0], "_", told(path, node))
+
+    def test_l12_an_underscore_alone_is_never_read(self):
+        for path, tree in trees():
+            self.assertNotIn("_", bound_at_top(tree), path.name)
+        for path, node in nodes(ast.Name):
+            self.assertFalse(node.id == "_" and isinstance(node.ctx, ast.Load), told(path, node))
 
 
 class Statements(unittest.TestCase):
